@@ -1,0 +1,1 @@
+"""Metronet: planned traffic in a switched network."""
