@@ -1,12 +1,18 @@
+import importlib
 import inspect
+import pathlib
 import unittest
 
+import metronet.admission
+import metronet.copies
 import metronet.errors
 import metronet.judging
 import metronet.nets
+import metronet.others
 import metronet.plans
 import metronet.routes
 import metronet.simulation
+import metronet.texts
 import metronet.windows
 
 INTERFACE = {
@@ -43,11 +49,31 @@ INTERFACE = {
         "Run": "(deliveries, fault)",
         "simulate": "(net, plan, errors, count, *, broken=None)",
     },
+    metronet.others: {
+        "send_others": "(windows, frames)",
+        "gap": "(windows)",
+        "longest_wait": "(windows, length)",
+    },
+    metronet.admission: {"admit": "(net, plan, stream)", "Ledger": "(net)"},
+    metronet.copies: {
+        "Eliminator": "(size)",
+        "history_of": "(net, first, second)",
+        "receive": "(net, plan, pair, run)",
+    },
+    metronet.texts: {"write_text": "(net, plan)", "read_text": "(text)"},
 }
 METHODS = {
     metronet.nets.Net: {"delay": "(self, a, b)", "neighbours": "(self, a)", "__eq__": "(self, other)"},
     metronet.plans.Stream: {"__eq__": "(self, other)"},
+    metronet.admission.Ledger: {
+        "request": "(self, name, stream)",
+        "release": "(self, name)",
+        "names": "(self)",
+        "plan": "(self)",
+    },
+    metronet.copies.Eliminator: {"take": "(self, number)"},
 }
+PACKAGE = pathlib.Path(metronet.errors.__file__).parent
 
 
 class InterfaceTest(unittest.TestCase):
@@ -71,6 +97,14 @@ class InterfaceTest(unittest.TestCase):
             for name, arguments in methods.items():
                 self.assertIn(name, vars(listed))
                 self.assertEqual(str(inspect.signature(vars(listed)[name])), arguments, name)
+
+    def test_error_classes(self):
+        for path in PACKAGE.glob("*.py"):
+            module = importlib.import_module("metronet" if path.stem == "__init__" else f"metronet.{path.stem}")
+            errors = [value for value in vars(module).values() if inspect.isclass(value) and issubclass(value, Exception)]
+            for error in errors:
+                if error is not metronet.errors.MetronetError:
+                    self.assertEqual(error.__bases__, (metronet.errors.MetronetError,))
 
 
 if __name__ == "__main__":
